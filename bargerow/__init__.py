@@ -1,0 +1,1 @@
+"""Barges in a row, kept in a tree by their ranks."""

@@ -1,0 +1,9 @@
+"""The refusals."""
+
+
+class RowError(ValueError):
+    pass
+
+
+class NoPlace(RowError):
+    pass
