@@ -1,6 +1,7 @@
 """Some of the rules of ../shared/LANGUAGE.md: those that are plain to see from a file and its parts."""
 
 import ast
+import builtins
 import pathlib
 import re
 import unittest
@@ -17,6 +18,11 @@ EXPRESSIONS = (
     ast.IfExp, ast.Call, ast.Attribute, ast.Subscript, ast.Slice, ast.ListComp, ast.JoinedStr,
     ast.FormattedValue, ast.Lambda,
 )
+PYTHONS_NAMES = (
+    "len range enumerate zip min max sum abs sorted reversed int str bool list tuple dict set frozenset isinstance ord "
+    "repr any all divmod Exception ValueError TypeError KeyError IndexError LookupError ZeroDivisionError "
+    "ArithmeticError OverflowError RuntimeError NotImplementedError AttributeError StopIteration"
+).split()
 WORDS = re.compile(
     r"\b(type|typing|typing_extensions|enum|Enum|IntEnum|StrEnum|Flag|IntFlag|Generic|Protocol|ABC|ABCMeta"
     r"|namedtuple|NamedTuple|TypedDict|TYPE_CHECKING|abstractmethod)\b|dataclass|overload|contextmanager"
@@ -64,6 +70,12 @@ class LanguageTest(unittest.TestCase):
             self.assertNotIsInstance(node.value, (float, bytes, complex))
         if isinstance(node, ast.FunctionDef):
             self.assertLessEqual(node.end_lineno - node.lineno + 1, 40)
+        if isinstance(node, ast.Assign):
+            self.assertEqual(len(node.targets), 1)
+            self.assertNotIsInstance(node.targets[0], (ast.Tuple, ast.List))
+        if isinstance(node, ast.Name) and node.id in dir(builtins):
+            self.assertIn(node.id, PYTHONS_NAMES)
+            self.assertIsInstance(node.ctx, ast.Load)
         if isinstance(node, (ast.For, ast.While)):
             self.assertEqual(node.orelse, [])
         if isinstance(node, ast.ImportFrom):

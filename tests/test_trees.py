@@ -4,19 +4,9 @@ import unittest
 from bargerow.errors import NoPlace
 from bargerow.trees import barge_at, greatest, row_of
 from tests.rows import (
-    ROWS, SIXTY_FIGURES, deep_falling, deep_rising, depth, first_place, tree_by_words,
+    DEEP, DOCUMENT_TREE, HUGE, ROWS, deep_falling, deep_rising, depth, first_place, is_tree_of, small_rows,
+    tree_by_words,
 )
-
-DOCUMENT_TREE = ((None, (7, 1), None, 1), (8, 5), (None, (9, 5), None, 1), 3)
-# Any whole number may be handed in as a place, also one too long to be made a text.
-HUGE = SIXTY_FIGURES + [10 ** 5000, -(10 ** 5000)]
-
-
-def small_rows():
-    """Every row of up to five barges with three ranks."""
-    for length in range(6):
-        for ranks in itertools.product((-1, 0, 1), repeat=length):
-            yield list(enumerate(ranks))
 
 
 class TestsOwnTreesTest(unittest.TestCase):
@@ -26,9 +16,30 @@ class TestsOwnTreesTest(unittest.TestCase):
     def test_the_deep_trees_are_as_deep_as_their_rows_are_long(self):
         for name in ("rising", "falling"):
             self.assertEqual(depth(tree_by_words(ROWS[name])), 100)
-        for make in (deep_rising, deep_falling):
-            tree, row = make(100)
-            self.assertEqual(tree, tree_by_words(row))
+        for name, make in DEEP.items():
+            for count in (1, 2, 3, 99, 100, 300):
+                tree, row = make(count)
+                with self.subTest(name, count=count):
+                    self.assertEqual(tree, tree_by_words(row))
+                    self.assertEqual(depth(tree), count)
+
+    def test_is_tree_of_tells_the_tree_of_a_row_from_all_others(self):
+        rows = list(small_rows())
+        trees = [tree_by_words(row) for row in rows]
+        for row, (number, tree) in itertools.product(rows, enumerate(trees)):
+            if is_tree_of(tree, row) != (row == rows[number]):
+                self.fail(f"{tree} and {row}")
+
+    def test_is_tree_of_tells_wrong_trees(self):
+        wrong = [
+            ((None, (7, 1), None, 1), (8, 5), (None, (9, 5), None, 1), 2),
+            ((None, (7, 1), None, 2), (8, 5), (None, (9, 5), None, 1), 3),
+            (((None, (7, 1), None, 1), (8, 5), None, 2), (9, 5), None, 3),
+            (None, (7, 1), (None, (8, 5), (None, (9, 5), None, 1), 2), 3),
+        ]
+        for tree in wrong:
+            with self.subTest(tree):
+                self.assertFalse(is_tree_of(tree, ROWS["document"]))
 
 
 class RowOfTest(unittest.TestCase):
@@ -51,7 +62,7 @@ class RowOfTest(unittest.TestCase):
             self.assertEqual(row_of(tree_by_words(row)), row)
 
     def test_trees_far_deeper_than_told(self):
-        for make in (deep_rising, deep_falling):
+        for make in DEEP.values():
             tree, row = make(3000)
             self.assertTrue(row_of(tree) == row)
 
@@ -81,7 +92,7 @@ class BargeAtTest(unittest.TestCase):
         self.assertEqual(barge_at(DOCUMENT_TREE, 2), (9, 5))
 
     def test_trees_far_deeper_than_told(self):
-        for make in (deep_rising, deep_falling):
+        for make in DEEP.values():
             tree, row = make(3000)
             for place in (0, 1, 1500, 2999):
                 self.assertEqual(barge_at(tree, place), row[place])
